@@ -1,0 +1,1 @@
+"""A forest linked, cut and rooted anew, with values along its ways."""
