@@ -3,6 +3,7 @@
 from treewaysdesk.forest import answers
 
 MOST_CALLS = 200
+MOST_MARKS = 8
 LIMIT = 1000000000
 FARTHEST = 999999999999999999
 HIGHEST_NODE = 4294967295
@@ -40,6 +41,38 @@ def path(a, b):
     return (8, a, b)
 
 
+def place(a, b, i):
+    return (9, a, b, i)
+
+
+def find(a, b, v):
+    return (10, a, b, v)
+
+
+def meet(a, b):
+    return (11, a, b)
+
+
+def below(a):
+    return (12, a)
+
+
+def mark():
+    return (13,)
+
+
+def back(i):
+    return (14, i)
+
+
+def way(a, b):
+    return (15, a, b)
+
+
+def parents():
+    return (16,)
+
+
 def chain(n):
     """Calls that make a forest of one chain: each node but node 0 hangs under the one before it."""
     return [begin(n)] + [link(node, node - 1) for node in range(1, n)]
@@ -65,6 +98,8 @@ def split(told):
 
 def tell(calls):
     """The answers of a list of calls, one for each call."""
+    if len(calls) > MOST_CALLS:
+        raise AssertionError(f"a list has at most {MOST_CALLS} calls, not {len(calls)}")
     parts = split(answers(flat(calls)))
     if len(parts) != len(calls):
         raise AssertionError(f"{len(parts)} answers to {len(calls)} calls")
@@ -85,11 +120,27 @@ def tell_after(calls, questions):
     return parts
 
 
-def look(calls, n):
-    """All that can be asked of the forest that the calls lead to.
+def all_questions(n):
+    """All that can be asked of a forest of n nodes: each question of all its nodes, and of one that isn't there."""
+    questions = [parents(), root(n)]
+    questions += [question(a) for question in (root, below) for a in range(n)]
+    pairs = [(a, b) for a in range(n) for b in range(n)]
+    questions += [question(a, b) for question in (path, way, meet) for a, b in pairs]
+    questions += [place(a, b, i) for a, b in pairs for i in (0, 1, 3)]
+    questions += [find(a, b, v) for a, b in pairs for v in (-7, 1, 5)]
+    return questions
 
-    The roots and the lengths of all ways tell every parent; the ways of one node tell every value.
-    """
-    questions = [root(a) for a in range(n)]
-    questions += [path(a, b) for a in range(n) for b in range(n)]
-    return tell_after(calls, questions + [root(n)])
+
+def look(calls, n):
+    """All that can be asked of the forest that the calls lead to."""
+    return tell_after(calls, all_questions(n))
+
+
+def look_at_marks(calls, n):
+    """The number that the next mark would get, and for each mark the forest that is marked, or the refusal."""
+    found = [last(calls + [mark()])]
+    for i in range(MOST_MARKS + 1):
+        parts = tell(calls + [back(i), parents()] + [path(a, a) for a in range(n)])[len(calls):]
+        # Behind a refusal stands the forest as it is, which is not marked.
+        found += parts if parts[0] == [0] else parts[:1]
+    return found

@@ -6,13 +6,16 @@ import io
 import sys
 import unittest
 
-from tests.lines import LIMIT, MOST_CALLS, add, begin, chain, cut, flat, link, path, put, reroot, root, split
+from tests.lines import (LIMIT, MOST_CALLS, MOST_MARKS, add, back, begin, below, chain, cut, find, flat, link, mark,
+                         meet, parents, path, place, put, reroot, root, split, way)
 from treewaysdesk.forest import answers
 
-MIXED = flat(chain(4) + [put(2, -6), add(0, 3, 2), path(3, 0), reroot(3), root(0), cut(3), cut(0), link(0, 9),
-                         link(0, 0), begin(40), path(0, 1)])
-MIXED_ANSWERS = [1, 0, 1, 0, 1, 0, 1, 0, 1, 0, 1, 0, 5, 0, 4, 2, -4, 2, 1, 0, 2, 0, 3, 1, -2, 1, 0, 1, -1, 1, -3,
-                 1, -1, 1, -2]
+MIXED = flat(chain(4) + [put(2, -6), add(0, 3, 2), path(3, 0), mark(), reroot(3), root(0), cut(3), cut(0), link(0, 9),
+                         link(0, 0), begin(40), path(0, 1), way(1, 3), place(1, 3, 2), find(2, 1, 0), meet(1, 3),
+                         below(2), parents(), back(0), parents(), back(1)])
+MIXED_ANSWERS = [1, 0, 1, 0, 1, 0, 1, 0, 1, 0, 1, 0, 5, 0, 4, 2, -4, 2, 2, 0, 0, 1, 0, 2, 0, 3, 1, -2, 1, 0, 1, -1,
+                 1, -3, 1, -1, 1, -2, 4, 0, 1, 2, 3, 2, 0, 3, 2, 0, 1, 2, 0, 3, 3, 0, 2, -2, 5, 0, 99, 2, 3, 99, 1, 0,
+                 5, 0, 99, 0, 1, 2, 1, -6]
 
 
 class GuardedList(list):
@@ -38,6 +41,14 @@ class FormTest(unittest.TestCase):
         self.assertEqual(answers([1, 3, 2, 0, 1, 5, 0, 4, 1]), [1, 0, 1, 0, 1, 0, 2, 0, 0])
         self.assertEqual(answers([1, 3, 6, 2, -7, 8, 2, 2]), [1, 0, 1, 0, 5, 0, 1, -7, -7, 2])
         self.assertEqual(answers([1, 3, 2, 0, 1, 7, 0, 1, 4, 8, 1, 0]), [1, 0, 1, 0, 1, 0, 5, 0, 2, 8, 4, 1])
+        self.assertEqual(answers([1, 3, 2, 0, 1, 9, 0, 1, 1]), [1, 0, 1, 0, 2, 0, 1])
+        self.assertEqual(answers([1, 3, 6, 2, 5, 10, 2, 2, 5]), [1, 0, 1, 0, 2, 0, 2])
+        self.assertEqual(answers([1, 3, 2, 0, 1, 11, 0, 1]), [1, 0, 1, 0, 2, 0, 1])
+        self.assertEqual(answers([1, 3, 2, 0, 1, 6, 0, -9, 12, 1]), [1, 0, 1, 0, 1, 0, 3, 0, 2, -9])
+        self.assertEqual(answers([1, 3, 13, 13]), [1, 0, 2, 0, 0, 2, 0, 1])
+        self.assertEqual(answers([1, 3, 13, 2, 0, 1, 14, 0, 16]), [1, 0, 2, 0, 0, 1, 0, 1, 0, 4, 0, 99, 99, 99])
+        self.assertEqual(answers([1, 3, 2, 0, 1, 15, 1, 0]), [1, 0, 1, 0, 3, 0, 1, 0])
+        self.assertEqual(answers([1, 3, 2, 0, 1, 16]), [1, 0, 1, 0, 4, 0, 1, 99, 99])
 
     def test_a_mixed_list(self):
         self.assertEqual(answers(MIXED), MIXED_ANSWERS)
@@ -48,6 +59,7 @@ class FormTest(unittest.TestCase):
     def test_numbers_told_may_be_below_zero(self):
         told = answers([1, 1, 6, 0, -LIMIT, 8, 0, 0])
         self.assertEqual(told, [1, 0, 1, 0, 5, 0, 1, -LIMIT, -LIMIT, 0])
+        self.assertEqual(answers([1, 1, 6, 0, -10, 12, 0]), [1, 0, 1, 0, 3, 0, 1, -10])
 
     def test_kinds(self):
         told = answers(MIXED)
@@ -82,6 +94,18 @@ class LengthTest(unittest.TestCase):
     def test_two_hundred_opens(self):
         self.assertEqual(answers([1, 32] * MOST_CALLS), [1, 0] * MOST_CALLS)
 
+    def test_the_longest_answers(self):
+        calls = chain(32) + [way(0, 31), parents()] * ((MOST_CALLS - 32) // 2)
+        self.assertEqual(len(calls), MOST_CALLS)
+        whole = [33, 0] + list(range(32)) + [33, 0, 99] + list(range(31))
+        self.assertEqual(answers(flat(calls)), [1, 0] * 32 + whole * ((MOST_CALLS - 32) // 2))
+
+    def test_two_hundred_marks(self):
+        told = answers([1, 32] + [13] * (MOST_CALLS - 1))
+        marks = [number for i in range(MOST_MARKS) for number in (2, 0, i)]
+        self.assertEqual(told, [1, 0] + marks + [1, -5] * (MOST_CALLS - 1 - MOST_MARKS))
+        self.assertEqual(answers([13] * MOST_CALLS), [1, -10] * MOST_CALLS)
+
     def test_two_hundred_refusals(self):
         self.assertEqual(answers([7, 0, 0, 1] * MOST_CALLS), [1, -10] * MOST_CALLS)
 
@@ -115,6 +139,11 @@ class NothingKeptTest(unittest.TestCase):
         self.assertEqual(answers([4, 0]), [1, -10])
         self.assertEqual(answers([1, 2, 4, 0]), [1, 0, 2, 0, 0])
 
+    def test_no_mark_is_left(self):
+        answers([1, 32] + [13] * MOST_MARKS)
+        self.assertEqual(answers([1, 2, 14, 0, 13]), [1, 0, 1, -6, 2, 0, 0])
+        self.assertEqual(answers([14, 0]), [1, -10])
+
 
 class NothingElseTest(unittest.TestCase):
     def test_nothing_is_printed_or_read(self):
@@ -135,7 +164,9 @@ class NothingElseTest(unittest.TestCase):
         self.assertEqual(set(sys.modules), before)
 
     def test_few_calls_within_one_another(self):
-        calls = chain(32) + [reroot(31), add(0, 31, 1)] + [path(0, 31)] * (MOST_CALLS - 34)
+        calls = chain(32) + [mark(), reroot(31), add(0, 31, 1), way(0, 31), place(0, 31, 31), find(0, 31, 2),
+                             meet(0, 31), below(31), parents(), back(0), add(0, 31, 1)]
+        calls += [path(0, 31)] * (MOST_CALLS - len(calls))
         limit = sys.getrecursionlimit()
         sys.setrecursionlimit(len(inspect.stack()) + 15)
         try:

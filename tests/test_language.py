@@ -24,6 +24,13 @@ BANNED_WORDS = """type typing typing_extensions enum Enum IntEnum StrEnum Flag I
 BANNED_PARTS = ("dataclass", "overload", "contextmanager")
 TWO_UNDERSCORES = ("__init__", "__eq__", "__repr__", "__str__", "__len__")
 
+CHANGING_METHODS = ("append", "clear", "extend", "insert", "pop", "remove", "reverse", "setdefault", "update")
+# L26: how a value of an object may be called although a value of Python's own has a method of that name.
+FREE_VALUES = "count index title find get join lower upper split strip copy add".split()
+PYTHON_S_OWN = {name for kind in (str, int, list, tuple, dict, set, frozenset, bytes) for name in dir(kind)}
+WALKED_AT_ONCE = ("zip", "enumerate", "reversed", "range")
+WALKERS = ("list", "tuple", "dict", "sorted", "sum", "any", "all", "enumerate", "zip", "min", "max")
+
 STATEMENTS = (ast.Module, ast.FunctionDef, ast.ClassDef, ast.arguments, ast.arg, ast.Assign, ast.AugAssign, ast.If,
               ast.While, ast.For, ast.Return, ast.Break, ast.Continue, ast.Pass, ast.Raise, ast.Try,
               ast.ExceptHandler, ast.Expr)
@@ -140,6 +147,84 @@ class LanguageTest(unittest.TestCase):
                 self.assertIn(node.attr, methods + OWN_METHODS)
         loaded = [node for node in nodes if isinstance(node, ast.Attribute) and isinstance(node.ctx, ast.Load)]
         self.assertEqual([node.attr for node in loaded if node not in called and node.attr not in stored], [])
+
+    def test_names_of_methods_and_values(self):
+        for path, node in self.each_node():
+            if isinstance(node, ast.ClassDef):
+                names = [part.name for part in node.body]
+                self.assertEqual(len(set(names)), len(names), self.at(path, node))
+                allowed = set(OWN_METHODS + ["add", "discard"]) | set(TWO_UNDERSCORES)
+                self.assertEqual(set(names) & PYTHON_S_OWN - allowed, set())
+            if isinstance(node, ast.Attribute) and isinstance(node.ctx, ast.Store):
+                self.assertNotIn(node.attr, PYTHON_S_OWN - set(FREE_VALUES), self.at(path, node))
+                self.assertIsInstance(node.value, ast.Name, self.at(path, node))
+
+    def test_parameters_and_keywords(self):
+        for path, node in self.each_node():
+            self.assertNotIsInstance(node, ast.keyword, self.at(path, node))
+            if isinstance(node, ast.arguments):
+                self.assertEqual((node.vararg, node.kwarg, node.kwonlyargs, node.posonlyargs), (None, None, [], []))
+            if isinstance(node, ast.arg):
+                self.assertIsNone(node.annotation, self.at(path, node))
+            if isinstance(node, ast.FunctionDef):
+                self.assertIsNone(node.returns, self.at(path, node))
+
+    def test_comprehensions_and_texts(self):
+        for path, node in self.each_node():
+            if isinstance(node, ast.ListComp):
+                self.assertEqual(len(node.generators), 1, self.at(path, node))
+                self.assertLessEqual(len(node.generators[0].ifs), 1, self.at(path, node))
+            if isinstance(node, ast.Constant) and isinstance(node.value, str):
+                self.assertNotIn("%", node.value)
+            if isinstance(node, ast.BinOp):
+                self.assertNotIsInstance(node.op, ast.Pow, self.at(path, node))
+
+    def test_walked_at_once(self):
+        nodes = [node for path, node in self.each_node()]
+        walked = [node.iter for node in nodes if isinstance(node, (ast.For, ast.comprehension))]
+        for node in nodes:
+            if isinstance(node, ast.Call) and isinstance(node.func, ast.Name) and node.func.id in WALKERS:
+                walked += node.args
+        for path, node in self.each_node():
+            if isinstance(node, ast.Call) and isinstance(node.func, ast.Name) and node.func.id in WALKED_AT_ONCE:
+                self.assertIn(ast.dump(node, include_attributes=True),
+                              [ast.dump(one, include_attributes=True) for one in walked], self.at(path, node))
+
+    def test_what_a_loop_walks_is_not_changed_in_it(self):
+        for path, node in self.each_node():
+            if isinstance(node, ast.For):
+                walked = [ast.unparse(part) for part in ast.walk(node.iter)]
+                for inner in node.body:
+                    for part in ast.walk(inner):
+                        self.assertNotIn(changed_by(part), walked, self.at(path, part))
+
+    def test_lists_and_dicts_of_a_file_s_top_are_only_read(self):
+        for path, text in self.each_file():
+            tree = ast.parse(text)
+            kept = {}
+            for node in tree.body:
+                if isinstance(node, ast.Assign) and isinstance(node.value, (ast.List, ast.Dict, ast.Tuple)):
+                    kept[node.targets[0].id] = True
+                    inner = [part for part in ast.walk(node.value) if part is not node.value]
+                    self.assertEqual([part for part in inner if isinstance(part, (ast.List, ast.Dict))], [])
+            read = []
+            for node in ast.walk(tree):
+                if isinstance(node, ast.Subscript) and isinstance(node.ctx, ast.Load):
+                    read.append(node.value)
+                if isinstance(node, ast.Compare) and isinstance(node.ops[0], ast.In):
+                    read.append(node.comparators[0])
+            for node in ast.walk(tree):
+                if isinstance(node, ast.Name) and isinstance(node.ctx, ast.Load) and node.id in kept:
+                    self.assertIn(node, read, self.at(path, node))
+
+
+def changed_by(node):
+    """What a statement's part changes, as it is written, or None."""
+    if isinstance(node, ast.Call) and isinstance(node.func, ast.Attribute) and node.func.attr in CHANGING_METHODS:
+        return ast.unparse(node.func.value)
+    if isinstance(node, ast.Subscript) and isinstance(node.ctx, ast.Store):
+        return ast.unparse(node.value)
+    return None
 
 
 if __name__ == "__main__":

@@ -2,26 +2,29 @@
 
 import unittest
 
-from tests.lines import (FARTHEST, HIGHEST_NODE, LIMIT, add, begin, cut, last, link, look, path, put, reroot, root,
-                         split, tell)
+from tests.lines import (FARTHEST, HIGHEST_NODE, LIMIT, add, all_questions, back, begin, below, cut, find, last, link,
+                         look, look_at_marks, mark, meet, parents, path, place, put, reroot, root, split, tell, way)
 from treewaysdesk.forest import answers
 
-# 1 and 2 hang under 0, 3 under 2; 4 and 5 are another tree, with 4 its root.
+# 1 and 2 hang under 0, 3 under 2; 4 and 5 are another tree, with 4 its root. Two other forests are marked.
 SIZE = 6
-FOREST = [begin(SIZE), link(1, 0), link(2, 0), link(3, 2), link(5, 4),
-          put(0, 5), put(1, -8), put(2, 40), put(3, -8), put(4, LIMIT), put(5, -LIMIT)]
+FOREST = [begin(SIZE), link(1, 0), link(2, 0), mark(), link(3, 2), link(5, 4),
+          put(0, 5), put(1, -8), mark(), put(2, 40), put(3, -8), put(4, LIMIT), put(5, -LIMIT)]
 
 EACH_CALL = {"link": link(0, 1), "cut": cut(0), "root": root(0), "reroot": reroot(0),
-             "put": put(0, 1), "add": add(0, 0, 1), "path": path(0, 0)}
+             "put": put(0, 1), "add": add(0, 0, 1), "path": path(0, 0), "place": place(0, 0, 0),
+             "find": find(0, 0, 0), "meet": meet(0, 0), "below": below(0), "mark": mark(), "back": back(0),
+             "way": way(0, 0), "parents": parents()}
 
 
 class RefusalTest(unittest.TestCase):
     def refused(self, call, number, before=FOREST, size=SIZE):
-        """The call is answered by the number alone, and the forest is as before."""
+        """The call is answered by the number alone, and the forest and its marks are as before."""
         after = list(before) + [call]
         with self.subTest(call=call, before=before):
             self.assertEqual(last(after), [number])
             self.assertEqual(look(after, size), look(before, size))
+            self.assertEqual(look_at_marks(after, size), look_at_marks(before, size))
 
 
 class NoForestTest(unittest.TestCase):
@@ -32,7 +35,9 @@ class NoForestTest(unittest.TestCase):
 
     def test_before_all_other_refusals(self):
         for call in (link(0, 0), cut(HIGHEST_NODE), root(HIGHEST_NODE), reroot(HIGHEST_NODE),
-                     put(HIGHEST_NODE, FARTHEST), add(HIGHEST_NODE, 0, FARTHEST), path(0, HIGHEST_NODE)):
+                     put(HIGHEST_NODE, FARTHEST), add(HIGHEST_NODE, 0, FARTHEST), path(0, HIGHEST_NODE),
+                     place(0, 1, HIGHEST_NODE), place(HIGHEST_NODE, 0, 0), find(0, HIGHEST_NODE, FARTHEST),
+                     meet(HIGHEST_NODE, HIGHEST_NODE), below(HIGHEST_NODE), back(HIGHEST_NODE), way(0, 32)):
             self.assertEqual(answers(list(call)), [1, -10])
 
     def test_after_a_refused_open(self):
@@ -44,6 +49,10 @@ class NoForestTest(unittest.TestCase):
         early = list(EACH_CALL.values())
         self.assertEqual(tell(early), [[-10]] * len(early))
         self.assertEqual(look(early + FOREST, SIZE), look(FOREST, SIZE))
+        self.assertEqual(look_at_marks(early + FOREST, SIZE), look_at_marks(FOREST, SIZE))
+
+    def test_marks_before_open_are_none(self):
+        self.assertEqual(tell([mark()] * 9 + [begin(2), back(0), mark()]), [[-10]] * 9 + [[0], [-6], [0, 0]])
 
 
 class OpenRefusalTest(RefusalTest):
@@ -65,7 +74,11 @@ class NoSuchNodeTest(RefusalTest):
             for call in (link(node, 0), link(4, node), link(node, node),
                          cut(node), root(node), reroot(node), put(node, 1),
                          add(node, 0, 1), add(0, node, 1), add(node, node, 1),
-                         path(node, 0), path(0, node), path(node, node)):
+                         path(node, 0), path(0, node), path(node, node),
+                         place(node, 0, 0), place(0, node, 0), place(node, node, 0),
+                         find(node, 0, 0), find(0, node, 0), find(node, node, 0),
+                         meet(node, 0), meet(0, node), meet(node, node), below(node),
+                         way(node, 0), way(0, node), way(node, node)):
                 self.refused(call, -1)
 
     def test_the_size_that_counts_is_the_newest_forest_s(self):
@@ -75,13 +88,21 @@ class NoSuchNodeTest(RefusalTest):
     def test_in_the_largest_forest(self):
         for node in (32, 33, 99, HIGHEST_NODE):
             for call in (link(node, 0), link(0, node), cut(node), root(node), reroot(node), put(node, 1),
-                         add(node, 0, 1), add(0, node, 1), path(node, 0), path(0, node)):
+                         add(node, 0, 1), add(0, node, 1), path(node, 0), path(0, node),
+                         place(node, 0, 0), place(0, node, 0), find(node, 0, 0), find(0, node, 0),
+                         meet(node, 0), meet(0, node), below(node), way(node, 0), way(0, node)):
                 self.assertEqual(last([begin(32), call]), [-1])
         self.assertEqual(last([begin(32), root(31)]), [0, 31])
 
     def test_the_other_numbers_are_no_nodes(self):
         self.assertEqual(last(FOREST + [put(0, SIZE)]), [0])
         self.assertEqual(last(FOREST + [add(0, 1, 32)]), [0])
+        self.assertEqual(last(FOREST + [find(0, 1, SIZE)]), [-3])
+        self.assertEqual(last([begin(1), mark(), mark(), back(1)]), [0])
+        for i in (SIZE, 32, HIGHEST_NODE):
+            self.refused(place(1, 3, i), -3)
+            self.refused(back(i), -6)
+        self.assertEqual(last([begin(1), place(0, 0, 1)]), [-3])
 
 
 class LinkRefusalTest(RefusalTest):
@@ -173,14 +194,83 @@ class PathRefusalTest(RefusalTest):
         self.refused(path(4, SIZE), -1)
 
 
+class PlaceRefusalTest(RefusalTest):
+    def test_not_joined(self):
+        self.refused(place(0, 4, 0), -2)
+        self.refused(place(5, 3, 0), -2)
+        self.refused(place(3, 2, 1), -2, FOREST + [cut(3)])
+
+    def test_the_way_is_too_short(self):
+        for a, b, i in ((1, 3, 4), (3, 1, 4), (1, 3, HIGHEST_NODE), (2, 2, 1), (4, 5, 2)):
+            self.refused(place(a, b, i), -3)
+
+    def test_not_joined_counts_before_the_length(self):
+        for i in (1, 6, 32, HIGHEST_NODE):
+            self.refused(place(0, 4, i), -2)
+            self.refused(place(5, 1, i), -2)
+
+    def test_no_such_node_counts_first(self):
+        self.refused(place(4, SIZE, HIGHEST_NODE), -1)
+        self.refused(place(SIZE, 4, HIGHEST_NODE), -1)
+
+
+class FindRefusalTest(RefusalTest):
+    def test_not_joined(self):
+        self.refused(find(0, 4, 0), -2)
+        self.refused(find(5, 3, -FARTHEST), -2)
+        self.refused(find(0, 2, 1), -2, FOREST + [cut(2)])
+
+    def test_none(self):
+        for a, b, v in ((1, 3, 41), (3, 3, -7), (4, 5, LIMIT + 1), (1, 3, FARTHEST)):
+            self.refused(find(a, b, v), -3)
+
+    def test_not_joined_counts_before_none(self):
+        for v in (LIMIT + 1, FARTHEST):
+            self.refused(find(0, 4, v), -2)
+            self.refused(find(5, 1, v), -2)
+
+    def test_no_such_node_counts_first(self):
+        self.refused(find(4, SIZE, FARTHEST), -1)
+        self.refused(find(SIZE, 4, FARTHEST), -1)
+
+
+class MeetAndWayRefusalTest(RefusalTest):
+    def test_not_joined(self):
+        for question in (meet, way):
+            self.refused(question(0, 4), -2)
+            self.refused(question(5, 3), -2)
+            self.refused(question(1, 3), -2, FOREST + [cut(2)])
+            self.refused(question(0, 1), -2, [begin(2)], 2)
+
+    def test_no_such_node_counts_first(self):
+        for question in (meet, way):
+            self.refused(question(4, SIZE), -1)
+            self.refused(question(SIZE, 4), -1)
+
+
+class MarkAndBackRefusalTest(RefusalTest):
+    def test_eight_marks(self):
+        self.refused(mark(), -5, FOREST + [mark(), cut(3), mark(), mark(), put(0, 1), mark(), mark(), mark()])
+
+    def test_no_such_mark(self):
+        for i in (2, 3, 7, 8, SIZE, HIGHEST_NODE):
+            self.refused(back(i), -6)
+        self.refused(back(1), -6, FOREST + [back(0)])
+        self.refused(back(0), -6, FOREST + [begin(SIZE)])
+
+
 class AskingTest(unittest.TestCase):
     def test_what_is_asked_changes_nothing(self):
-        questions = [root(a) for a in range(SIZE)]
-        questions += [path(a, b) for a in range(SIZE) for b in range(SIZE)]
+        questions = all_questions(SIZE)
+        marks = look_at_marks(FOREST, SIZE)
         for question in questions:
             with self.subTest(question=question):
                 self.assertEqual(look(FOREST + [question], SIZE), look(FOREST, SIZE))
-        self.assertEqual(look(FOREST + questions, SIZE), look(FOREST, SIZE))
+                self.assertEqual(look_at_marks(FOREST + [question], SIZE), marks)
+        for start in range(0, len(questions), 100):
+            some = questions[start:start + 100]
+            self.assertEqual(look(FOREST + some, SIZE), look(FOREST, SIZE))
+            self.assertEqual(look_at_marks(FOREST + some, SIZE), marks)
 
     def test_a_refusal_stands_alone(self):
         told = answers([8, 0, 0, 1, 2, 8, 0, 1, 4, 2, 7, 0, 0, FARTHEST])
